@@ -406,6 +406,7 @@ func TestClone(t *testing.T) {
 	g, same := made(t, text), made(t, text)
 	for _, e := range []api.Event{try(1, 0, "a", "o", "r"), use(2, 0, "x"), try(2, 1, "b", "o", "r"), use(3, 0, "x"), use(3, 0, "pay"), use(4, 0, "x"), set(5, "b", "n", value.Int(3))} {
 		c := g.Clone()
+		c.Step(set(5, "a", "n", value.Int(1)))
 		c.Step(try(9, 7, "a", "o", "r"))
 		c.Step(use(9, 0, "x"))
 		c.Step(set(9, "a", "n", value.Int(3)))

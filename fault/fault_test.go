@@ -3,6 +3,7 @@ package fault_test
 import (
 	"errors"
 	"fmt"
+	"strconv"
 	"strings"
 	"testing"
 
@@ -58,6 +59,10 @@ func TestIsAndAs(t *testing.T) {
 	var code api.Errno
 	if !errors.As(err, &code) || code != 4 {
 		t.Errorf("P3.1: As finds the code %d", code)
+	}
+	var foreign *strconv.NumError
+	if errors.As(err, &foreign) || foreign != nil {
+		t.Error("P3.1: As finds what is not there")
 	}
 	if code = 0; !errors.As(fmt.Errorf("more: %w", err), &code) || code != 4 {
 		t.Errorf("P3.1: As finds behind another error the code %d", code)

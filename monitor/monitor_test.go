@@ -230,6 +230,28 @@ func TestClone(t *testing.T) {
 	}
 }
 
+// TestClonesGoOn: whatever a clone meets, the one that it came from tells the same as ever.
+func TestClonesGoOn(t *testing.T) {
+	r := rand.New(rand.NewSource(21))
+	for _, s := range []string{"since[0,3](not act(b), act(a))", "since[2,*](not act(b), act(a))", "once[1,3](act(a))", "hist[1,4](not act(b))", "times(a, 4) = 2", "prev(act(a))"} {
+		m, same := monitor.New(expr(t, s)), monitor.New(expr(t, s))
+		now := int64(0)
+		for range 200 {
+			now += int64(r.Intn(2))
+			c := m.Clone()
+			for range 3 {
+				c.Step(filled(), at(now+int64(r.Intn(3)), []string{"", "a", "b"}[r.Intn(3)]))
+			}
+			x := at(now, []string{"", "a", "b"}[r.Intn(3)])
+			got, err := m.Step(filled(), x)
+			want, wantErr := same.Step(filled(), x)
+			if err != wantErr || !value.Same(got, want) || m.Cells() != same.Cells() {
+				t.Fatalf("P18.1: %s: a clone is not apart", s)
+			}
+		}
+	}
+}
+
 // TestApart: nothing is kept of what is handed in, nothing handed out that is kept.
 func TestApart(t *testing.T) {
 	e := expr(t, "\"x\" in {\"x\", \"y\"} and s.b")

@@ -100,6 +100,9 @@ func TestNone(t *testing.T) {
 		"a part left":                       {one, one, {Kind: api.Neg, Kids: []int{1}}},
 		"a part passed over":                {one, one, {Kind: api.Neg, Kids: []int{0}}},
 		"not in order":                      {one, one, {Kind: api.Neg, Kids: []int{0}}, {Kind: api.Add, Kids: []int{2, 1}}},
+		"a kid of a leaf":                   {{Kind: api.Now, Kids: []int{0}}},
+		"a kid of a leaf, too few rows":     {one, {Kind: api.Now, Kids: []int{0, 0}}},
+		"a kid of a leaf, within":           {one, {Kind: api.Now, Kids: []int{5}}, {Kind: api.Add, Kids: []int{0, 1}}},
 		"texts of no set":                   {{Kind: api.Int, N: 1, Set: []string{"a"}}},
 		"texts that fall":                   {{Kind: api.Set, Set: []string{"b", "a"}}},
 		"one text twice":                    {{Kind: api.Set, Set: []string{"a", "a"}}},
@@ -122,6 +125,14 @@ func TestNone(t *testing.T) {
 	}
 	if table.Check(deep[:12]) != api.OK {
 		t.Error("P13.1: the deepest")
+	}
+	most := expr(t, "true")
+	for range 5 {
+		most = api.Expr{Kind: api.And, Kids: []api.Expr{most, most}}
+	}
+	most = api.Expr{Kind: api.Not, Kids: []api.Expr{most}}
+	if l := table.Of(most); len(l) != 64 || table.Check(l) != api.OK {
+		t.Errorf("P13.2: the greatest: %d rows", len(l))
 	}
 }
 
