@@ -120,6 +120,7 @@ func TestFaults(t *testing.T) {
 		{"right r { pre 1 < 2 < 3; }", api.ErrSyntax, 20},
 		{"right r { pre ; }", api.ErrSyntax, 14},
 		{"right r { pre once[2,1](true); }", api.ErrSyntax, 23},
+		{"right r { pre \"a\" in {\"b\",\"a\"}; }", api.ErrSyntax, 29},
 		{"right r { pre " + strings.Repeat("(", 33) + "true; }", api.ErrDepth, 46},
 		{"right r { pre true; on true; pre true; }", api.ErrTwice, 29},
 		{"right r { on true; on ); }", api.ErrTwice, 19},
