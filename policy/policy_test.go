@@ -119,7 +119,7 @@ func TestFaults(t *testing.T) {
 		{"right r { pre true }", api.ErrSyntax, 19},
 		{"right r { pre 1 < 2 < 3; }", api.ErrSyntax, 20},
 		{"right r { pre ; }", api.ErrSyntax, 14},
-		{"right r { pre once[2,1](true); }", api.ErrSyntax, 23},
+		{"right r { pre once[2,1](true); }", api.ErrSyntax, 22},
 		{"right r { pre \"a\" in {\"b\",\"a\"}; }", api.ErrSyntax, 29},
 		{"right r { pre " + strings.Repeat("(", 33) + "true; }", api.ErrDepth, 46},
 		{"right r { pre true; on true; pre true; }", api.ErrTwice, 29},
