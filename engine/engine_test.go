@@ -136,6 +136,8 @@ func TestErrors(t *testing.T) {
 		{ahead, tick(4), "error 33"},
 		{ahead, try(4, 0, "a", "o", "x"), "error 33"},
 		{ahead, try(5, 0, "a", "o", "x"), "error 22"},
+		{ahead, api.Event{At: 4, Kind: 5, Id: 64}, "error 4"},
+		{ahead, api.Event{At: 4, Kind: 5, Id: 1}, "error 16"},
 		{ahead, try(5, 1, "a", "o", "r"), "error 22"},
 		{ahead, try(5, 2, "a", "o", "r"), "error 22"},
 		{ahead, try(5, 3, "a", "o", "x"), "error 14"},
