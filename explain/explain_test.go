@@ -73,6 +73,18 @@ func TestShort(t *testing.T) {
 		"o.b or o.b":                        "no o.b=no",
 		"s.t in {\"\", \"a\"} or false":     "yes (s.t in {\"\", \"a\"})=yes false=no",
 		"(s.b and o.b) = not s.b":           "no ((s.b and o.b) = not s.b)=no",
+		// What looks back finds that moment alone.
+		"once[0,5](true)":                           "yes once[0,5](true)=yes",
+		"once[1,5](true)":                           "no once[1,5](true)=no",
+		"once[7,*](true)":                           "no once[7,*](true)=no",
+		"hist[0,*](s.b)":                            "no hist[0,*](s.b)=no",
+		"hist[1,5](s.b)":                            "yes hist[1,5](s.b)=yes",
+		"since[0,0](s.b, true)":                     "yes since[0,0](s.b, true)=yes",
+		"since[0,*](true, s.b)":                     "no since[0,*](true, s.b)=no",
+		"prev(true) or not prev(prev(true))":        "yes prev(true)=no prev(prev(true))=no",
+		"times(read, 0) = 1":                        "yes (times(read, 0) = 1)=yes",
+		"times(pay, 9) = 0":                         "yes (times(pay, 9) = 0)=yes",
+		"s.n = 5 and once[0,0](hist[1,1](o.n = 1))": "yes (s.n = 5)=yes once[0,0](hist[1,1]((o.n = 1)))=yes",
 	} {
 		if got, err := explain.Short(expr(t, s), filled(), now()); err != api.OK || got != want {
 			t.Errorf("P29.1: Short(%s): %q %d, not %q", s, got, err, want)
@@ -94,16 +106,27 @@ func TestWhy(t *testing.T) {
 }
 
 func TestErrors(t *testing.T) {
-	past := api.Expr{Kind: api.Prev, Kids: []api.Expr{{Kind: api.Subject, Name: "x"}}}
+	deep := api.Expr{Kind: api.Bool, N: 1}
+	for range api.MaxDepth {
+		deep = api.Expr{Kind: api.Not, Kids: []api.Expr{deep}}
+	}
 	for _, c := range []struct {
 		e    api.Expr
 		want api.Errno
 	}{
 		{api.Expr{}, api.ErrState},
 		{api.Expr{Kind: api.And, Kids: []api.Expr{expr(t, "s.x"), {Kind: api.Int, N: -1}}}, api.ErrState},
-		{expr(t, "prev(true)"), api.ErrState},
-		{expr(t, "s.b or times(x, 1) = 1"), api.ErrState},
-		{past, api.ErrNone},
+		{deep, api.ErrState},
+		{api.Expr{Kind: api.Prev, Kids: []api.Expr{{Kind: api.And}}}, api.ErrState},
+		{api.Expr{Kind: api.Once, Lo: 2, Hi: 1, Kids: []api.Expr{expr(t, "s.x")}}, api.ErrState},
+		{expr(t, "prev(s.x)"), api.ErrNone},
+		{expr(t, "once[0,1](1)"), api.ErrType},
+		{expr(t, "hist[0,1](s.n)"), api.ErrType},
+		{expr(t, "since[0,1](true, 1)"), api.ErrType},
+		{expr(t, "prev(1) and s.x"), api.ErrType},
+		{expr(t, "since[0,1](true, s.x) and prev(1)"), api.ErrNone},
+		{expr(t, "times(read, 1)"), api.ErrType},
+		{expr(t, "true or once[0,*](9223372036854775807 + s.n = 1)"), api.ErrOver},
 		{expr(t, "true or s.x"), api.ErrNone},
 		{expr(t, "false and 9223372036854775807 + s.n = 1"), api.ErrOver},
 		{expr(t, "true or s.n"), api.ErrType},
