@@ -89,6 +89,40 @@ func TestApplyNone(t *testing.T) {
 	}
 }
 
+// TestApplyPast: what looks back finds that moment alone.
+func TestApplyPast(t *testing.T) {
+	for text, want := range map[string]api.Value{
+		"times(read, 0)":                        value.Int(1),
+		"times(pay, 9) + 2":                     value.Int(2),
+		"once[0,5](act(read))":                  value.Bool(true),
+		"once[1,*](true)":                       value.Bool(false),
+		"hist[0,*](s.n = 5)":                    value.Bool(true),
+		"hist[0,0](false)":                      value.Bool(false),
+		"hist[1,2](false)":                      value.Bool(true),
+		"since[0,*](false, s.n = 5)":            value.Bool(true),
+		"since[1,7](true, true)":                value.Bool(false),
+		"prev(true)":                            value.Bool(false),
+		"not prev(prev(true)) and not s.b":      value.Bool(true),
+		"now = 7 and once[0,0](hist[0,0](o.b))": value.Bool(true),
+	} {
+		s := store.New(declared()...)
+		s.Set("a", "n", value.Int(5))
+		name := map[int]string{1: "n", 2: "b"}[want.Kind]
+		// What is set ahead counts at that moment.
+		l := []api.Update{to(t, "o.b", "true"), to(t, "s."+name, text)}
+		got, err := update.Apply(s, l, moment())
+		if v, _ := got.Get("a", name); err != api.OK || !value.Same(v, want) {
+			t.Errorf("P20.1: Apply of %s: %v %d, not %v", text, v, err, want)
+		}
+	}
+	// Each one looks at that moment as the first one.
+	twice := []api.Update{to(t, "s.n", "times(read, 9)"), to(t, "s.n", "s.n + times(read, 9)"), to(t, "s.b", "prev(true)"), to(t, "s.b", "prev(true)")}
+	got, err := update.Apply(store.New(declared()...), twice, moment())
+	if v, _ := got.Get("a", "b"); err != api.OK || get(got, "a") != 2 || v.N != 0 {
+		t.Errorf("P20.1: Apply of two that look back: %d %v %d", get(got, "a"), v, err)
+	}
+}
+
 func TestApplyErrors(t *testing.T) {
 	int1 := api.Expr{Kind: api.Int, N: 1}
 	for _, c := range []struct {
@@ -96,9 +130,11 @@ func TestApplyErrors(t *testing.T) {
 		u    api.Update
 		want api.Errno
 	}{
-		{"what looks back", to(t, "s.n", "times(a, 1)"), api.ErrState},
-		{"what looks back, within", to(t, "s.b", "true or prev(true)"), api.ErrState},
-		{"kids first", to(t, "s.b", "prev(s.x)"), api.ErrNone},
+		{"what looks back at what is not declared", to(t, "s.b", "prev(s.x)"), api.ErrNone},
+		{"what looks back at no truth", to(t, "s.b", "once[0,1](1)"), api.ErrType},
+		{"what looks back at no truth, within", to(t, "s.b", "not hist[0,1](s.n)"), api.ErrType},
+		{"what looks back, of another kind", to(t, "s.t", "times(a, 1)"), api.ErrType},
+		{"kids first", to(t, "s.b", "prev(1) and s.x"), api.ErrType},
 		{"no kind", api.Update{Side: 5, Name: "n"}, api.ErrState},
 		{"a kid too few", api.Update{Side: 5, Name: "n", To: api.Expr{Kind: api.Add, Kids: []api.Expr{int1}}}, api.ErrState},
 		{"not declared", to(t, "s.n", "s.x"), api.ErrNone},
@@ -106,7 +142,7 @@ func TestApplyErrors(t *testing.T) {
 		{"kids of other kinds", to(t, "s.n", "1 + s.t"), api.ErrType},
 		{"target not declared", to(t, "s.x", "1"), api.ErrNone},
 		{"target of another kind", to(t, "s.t", "1"), api.ErrType},
-		{"a text too long", api.Update{Side: 5, Name: "t", To: api.Expr{Kind: api.Text, Name: strings.Repeat("x", 33)}}, api.ErrLong},
+		{"a text too long", api.Update{Side: 5, Name: "t", To: api.Expr{Kind: api.Text, Name: strings.Repeat("x", 33)}}, api.ErrState},
 	} {
 		s := store.New(declared()...)
 		l := []api.Update{to(t, "s.n", "s.n + 1"), c.u, to(t, "s.n", "s.y")}
